@@ -458,8 +458,8 @@ func TestNotToldGoes(t *testing.T) {
 // orders calls f with each order of the numbers below n.
 func orders(n int, f func([]int)) {
 	var l []int
-	var go1 func()
-	go1 = func() {
+	var longer func()
+	longer = func() {
 		if len(l) == n {
 			f(slices.Clone(l))
 			return
@@ -467,12 +467,12 @@ func orders(n int, f func([]int)) {
 		for i := range n {
 			if !slices.Contains(l, i) {
 				l = append(l, i)
-				go1()
+				longer()
 				l = l[:len(l)-1]
 			}
 		}
 	}
-	go1()
+	longer()
 }
 
 // 16.1: where all were told those go first that were told first; new ones, told or not, behind them.
@@ -1152,7 +1152,7 @@ func TestFallsAgain(t *testing.T) {
 			for second := 1; second < 16; second++ {
 				for _, slots := range []int{1, 2, 3} {
 					fallen := d.Copy()
-					v := maps(v)
+					v := v.copy()
 					fallen.Fall(api.Plan{Room: wide, Crash: second, Done: keep%3 == 0, Names: 1, Keep: []int{keep * 141}})
 					c := Open(fallen, slots)
 					what := fmt.Sprint("crash at ", first, ", then at ", second, ", ", keep, ", ", slots, " slots")
@@ -1173,8 +1173,8 @@ func TestFallsAgain(t *testing.T) {
 	}
 }
 
-// maps is another one that is the same.
-func maps(v versions) versions {
+// copy is another one that is the same.
+func (v versions) copy() versions {
 	w := versions{}
 	for l, texts := range v {
 		w[l] = slices.Clone(texts)
